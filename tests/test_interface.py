@@ -1,0 +1,56 @@
+import importlib
+import inspect
+import unittest
+
+FUNCTIONS = {
+    "texts": ("borders(word)", "occurrences(text, word)", "advance(word, matched, letter)"),
+    "circles": ("turned(circle, k)", "least_turn(circle)", "root_of(circle)", "same_circle(one, other)",
+                "circle_starts(circle, word)", "circle_has(circle, word)"),
+    "suffixes": ("suffix_array(text)", "common_prefixes(text)", "suffix_range(text, word)"),
+    "common": ("count_words(text)", "longest_repeat(text)", "common_part(one, other)",
+               "least_missing(text, alphabet)"),
+    "transform": ("transform(text)", "restore(column, place)", "runs_of(column)",
+                  "backward(column, place, word)"),
+    "grains": ("check_shards(pieces, grain)", "windows_of(pieces, grain)", "grams_of(pieces, grain)",
+               "letters_after(pieces, grain, gram)"),
+    "explaining": ("explains(pieces, grain, text, shape)",),
+    "strands": ("strands(pieces, grain)",),
+    "rings": ("circle_states(pieces, grain, word)", "circle_way(pieces, grain, word, state, letter)"),
+    "lines": ("first_states(pieces, grain, word)", "line_way(pieces, grain, word, state, letter)"),
+}
+
+CONSTANTS = {
+    "index": {"TEXT_LIMIT": 2000, "VERSION_LIMIT": 200},
+    "grains": {"GRAIN_LIMIT": 12, "PIECE_LIMIT": 40, "LETTER_LIMIT": 60},
+    "lines": {"LINE_LIMIT": 8},
+}
+
+INDEX_METHODS = ("__init__(self, text)", "count(self, word)", "locate(self, word)", "insert(self, at, word)",
+                 "delete(self, at, count)", "back(self, version)", "text_at(self, version)",
+                 "count_at(self, version, word)", "__len__(self)", "__contains__(self, word)")
+
+
+class InterfaceTest(unittest.TestCase):
+    def test_functions_are_defined_where_they_are_listed(self):
+        for name, told in FUNCTIONS.items():
+            module = importlib.import_module("textshards." + name)
+            for form in told:
+                function = getattr(module, form.split("(")[0])
+                self.assertTrue(inspect.isfunction(function), form)
+                self.assertEqual(function.__module__, module.__name__, form)
+                self.assertEqual(function.__name__ + str(inspect.signature(function)), form)
+
+    def test_constants(self):
+        for name, told in CONSTANTS.items():
+            module = importlib.import_module("textshards." + name)
+            for constant, number in told.items():
+                self.assertEqual(getattr(module, constant), number, constant)
+
+    def test_index_defines_its_methods_and_properties_itself(self):
+        index = importlib.import_module("textshards.index").Index
+        self.assertEqual(index.__module__, "textshards.index")
+        for form in INDEX_METHODS:
+            method = vars(index)[form.split("(")[0]]
+            self.assertEqual(method.__name__ + str(inspect.signature(method)), form)
+        for name in ("text", "version", "runs"):
+            self.assertIsInstance(vars(index)[name], property, name)

@@ -1,0 +1,1 @@
+"""Textshards: texts put together again from overlapping pieces."""
