@@ -1,5 +1,6 @@
 """The plain words of the document, tried by brute force: slow, and written without the program."""
 
+from functools import lru_cache
 from itertools import product
 
 
@@ -82,11 +83,13 @@ def windows(texts, grain):
     return tuple(sorted({word for text in texts for word in words_in(text) if len(word) == grain}))
 
 
+@lru_cache
 def grams(pieces, grain):
     known = windows(pieces, grain)
     return tuple(sorted({window[:grain - 1] for window in known} | {window[1:] for window in known}))
 
 
+@lru_cache
 def letters_behind(pieces, grain, gram):
     letters = sorted({letter for piece in pieces for letter in piece})
     return "".join(letter for letter in letters if gram + letter in windows(pieces, grain))
@@ -142,3 +145,137 @@ def line_state(pieces, grain, word, read):
     found = tuple(at for at, piece in enumerate(pieces) if positions(read, piece))
     gram = read[len(read) - grain + 1:]
     return gram, longest_end(read, beginnings_of(pieces)), matched_by(word, read), found
+
+
+def explaining(pieces, grain, shape, most):
+    """All texts with at most most letters that explain the shards: only letters of the pieces can be in them."""
+    letters = sorted({letter for piece in pieces for letter in piece})
+    return [text for text in texts_over(letters, most, 1) if explains(pieces, grain, text, shape)]
+
+
+def occurs(text, word, shape):
+    return bool(circle_positions(text, word) if shape == "circle" else positions(text, word))
+
+
+def circle_states(pieces, grain, word):
+    return tuple(sorted((gram, matched) for gram in grams(pieces, grain) for matched in range(len(word))))
+
+
+@lru_cache(100000)
+def circle_way(pieces, grain, word, state, letter):
+    gram, matched = state
+    if letter not in letters_behind(pieces, grain, gram):
+        return None
+    matched = matched_by(word, word[:matched] + letter)
+    if matched == len(word):
+        return None
+    return (gram + letter)[1:], matched
+
+
+def circle_ways(pieces, grain, word, state):
+    ways = [circle_way(pieces, grain, word, state, letter) for letter in letters_behind(pieces, grain, state[0])]
+    return [other for other in ways if other]
+
+
+def read_from(pieces, grain, word, state, piece, states):
+    """Whether the piece can be read from the state within the states."""
+    for letter in piece:
+        if state not in states:
+            return False
+        state = circle_way(pieces, grain, word, state, letter)
+    return state in states
+
+
+def circle_paper(pieces, grain, word, paper):
+    """Whether the circle paper is accepted."""
+    levels, gaps = paper
+    if tuple((gram, matched) for gram, matched, _ in levels) != circle_states(pieces, grain, word):
+        return False
+    numbers = {level for _, _, level in levels}
+    if min(numbers) < 0 or [level for level, _ in gaps] != sorted(numbers):
+        return False
+    if not all(0 <= at < len(pieces) for _, at in gaps):
+        return False
+    level_of = {(gram, matched): level for gram, matched, level in levels}
+    for state in level_of:
+        if any(level_of[other] < level_of[state] for other in circle_ways(pieces, grain, word, state)):
+            return False
+    for level, at in gaps:
+        states = {state for state in level_of if level_of[state] == level}
+        if any(read_from(pieces, grain, word, state, pieces[at], states) for state in states):
+            return False
+    return True
+
+
+def line_way(pieces, grain, word, state, letter):
+    gram, tail, matched, found = state
+    matched = matched_by(word, word[:matched] + letter)
+    if letter not in letters_behind(pieces, grain, gram) or matched == len(word):
+        return None
+    tail = longest_end(tail + letter, beginnings_of(pieces))
+    ended = {at for at, piece in enumerate(pieces) if tail.endswith(piece)}
+    return (gram + letter)[1:], tail, matched, tuple(sorted(set(found) | ended))
+
+
+def line_paper(pieces, grain, word, paper):
+    """Whether the line paper is accepted."""
+    if list(paper) != sorted(set(paper)):
+        return False
+    for gram in grams(pieces, grain):
+        first = line_state(pieces, grain, word, gram)
+        if first and first not in paper:
+            return False
+    for state in paper:
+        ways = [line_way(pieces, grain, word, state, letter) for letter in letters_behind(pieces, grain, state[0])]
+        if any(other and other not in paper for other in ways) or state[3] == tuple(range(len(pieces))):
+            return False
+    return True
+
+
+def free_pieces(pieces):
+    free = []
+    for at, piece in enumerate(pieces):
+        longer = [other for other in pieces if len(other) > len(piece) and positions(other, piece)]
+        if not longer and piece not in pieces[:at]:
+            free.append(piece)
+    return tuple(free)
+
+
+def overlap_graph(pieces, least):
+    nodes = free_pieces(pieces)
+    edges = [(i, k, length) for i, one in enumerate(nodes) for k, other in enumerate(nodes)
+             for length in range(1, 60) if least <= length < len(one) and length < len(other)
+             and one[len(one) - length:] == other[:length]]
+    return nodes, tuple(sorted(edges))
+
+
+def reduced(graph):
+    nodes, edges = graph
+
+    def carried(edge):
+        return any(first[0] == edge[0] and second[1] == edge[1] and first[1] == second[0]
+                   and first[2] + second[2] - len(nodes[first[1]]) == edge[2] for first in edges for second in edges)
+
+    return nodes, tuple(edge for edge in edges if not carried(edge))
+
+
+def traced(graph, circle):
+    nodes, edges = graph
+    places = sorted((p, at) for at, node in enumerate(nodes) for p in circle_positions(circle, node))
+    if {at for _, at in places} != set(range(len(nodes))):
+        return None
+    later = places[1:] + [(places[0][0] + len(circle), places[0][1])]
+    for (p, one), (q, other) in zip(places, later):
+        if (one, other, len(nodes[one]) - (q - p)) not in edges:
+            return None
+    return tuple(places)
+
+
+def closed_walks(graph, most):
+    """All walks of at most most edges that lead round."""
+    walks = [(edge,) for edge in graph[1]]
+    found = []
+    for _ in range(most):
+        found += [walk for walk in walks if walk[-1][1] == walk[0][0]]
+        walks = [walk + (edge,) for walk in walks for edge in graph[1] if walk[-1][1] == edge[0]]
+    return found

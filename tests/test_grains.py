@@ -1,9 +1,12 @@
 from tests import plain
 from tests.helpers import ShardCase, some_shards
+from textshards.certain import decide, example
 from textshards.errors import GrainError, TooLarge
 from textshards.explaining import explains
 from textshards.grains import check_shards, grams_of, letters_after, windows_of
+from textshards.growing import certain_words, grown
 from textshards.lines import first_states, line_way
+from textshards.papers import check_circle_paper, check_line_paper
 from textshards.rings import circle_states, circle_way
 from textshards.strands import strands
 
@@ -68,6 +71,14 @@ class CheckShardsTest(ShardCase):
                 self.fails(error, circle_way, pieces, grain, word, ("", 0), "a")
                 self.fails(error, first_states, pieces, grain, word)
                 self.fails(error, line_way, pieces, grain, word, ("", "", 0, ()), "a")
+                self.fails(error, check_circle_paper, pieces, grain, word, ((), ()))
+                self.fails(error, check_line_paper, pieces, grain, word, ())
+                for shape in ("circle", "line", "other"):
+                    self.fails(error, decide, pieces, grain, word, shape)
+                    self.fails(error, grown, pieces, grain, word, shape, 0)
+            for shape in ("circle", "line", "other"):
+                self.fails(error, example, pieces, grain, shape)
+                self.fails(error, certain_words, pieces, grain, 0, shape)
 
 
 class WindowsTest(ShardCase):

@@ -17,12 +17,19 @@ FUNCTIONS = {
     "strands": ("strands(pieces, grain)",),
     "rings": ("circle_states(pieces, grain, word)", "circle_way(pieces, grain, word, state, letter)"),
     "lines": ("first_states(pieces, grain, word)", "line_way(pieces, grain, word, state, letter)"),
+    "papers": ("check_circle_paper(pieces, grain, word, paper)", "check_line_paper(pieces, grain, word, paper)"),
+    "certain": ("decide(pieces, grain, word, shape)", "example(pieces, grain, shape)"),
+    "growing": ("grown(pieces, grain, word, shape, most)", "certain_words(pieces, grain, count, shape)"),
+    "overlaps": ("free_pieces(pieces)", "overlap_graph(pieces, least)", "check_graph(graph)"),
+    "reducing": ("reduced(graph)",),
+    "tracing": ("traced(graph, circle)", "spelled(graph, walk)"),
 }
 
 CONSTANTS = {
     "index": {"TEXT_LIMIT": 2000, "VERSION_LIMIT": 200},
     "grains": {"GRAIN_LIMIT": 12, "PIECE_LIMIT": 40, "LETTER_LIMIT": 60},
     "lines": {"LINE_LIMIT": 8},
+    "certain": {"WORD_LIMIT": 60},
 }
 
 INDEX_METHODS = ("__init__(self, text)", "count(self, word)", "locate(self, word)", "insert(self, at, word)",

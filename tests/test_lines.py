@@ -60,17 +60,8 @@ class LineWayTest(ShardCase):
                     for tail in tails:
                         for matched in range(len(word)):
                             for found in ((), (len(pieces) - 1,), tuple(range(len(pieces)))):
-                                self.one_way(pieces, grain, word, (gram, tail, matched, found), "b")
-
-    def one_way(self, pieces, grain, word, state, letter):
-        gram, tail, matched, found = state
-        expected = None
-        matched = plain.matched_by(word, word[:matched] + letter)
-        if letter in plain.letters_behind(pieces, grain, gram) and matched < len(word):
-            tail = plain.longest_end(tail + letter, plain.beginnings_of(pieces))
-            ended = [at for at, piece in enumerate(pieces) if tail.endswith(piece)]
-            expected = (gram + letter)[1:], tail, matched, tuple(sorted(set(found) | set(ended)))
-        self.same(line_way(pieces, grain, word, state, letter), expected, (pieces, grain, word, state))
+                                told = (pieces, grain, word, (gram, tail, matched, found), "b")
+                                self.same(line_way(*told), plain.line_way(*told), told)
 
     def test_steps(self):
         pieces = ("ab", "bab", "ab")

@@ -30,22 +30,13 @@ class CircleStatesTest(ShardCase):
 
 
 class CircleWayTest(ShardCase):
-    def expected(self, pieces, grain, word, state, letter):
-        gram, matched = state
-        if letter not in plain.letters_behind(pieces, grain, gram):
-            return None
-        matched = plain.matched_by(word, word[:matched] + letter)
-        if matched == len(word):
-            return None
-        return (gram + letter)[1:], matched
-
     def test_by_the_words_of_the_document(self):
         for pieces, grain in some_shards(503, 40):
             for word in WORDS:
                 for gram in plain.grams(pieces, grain):
                     for state in [(gram, matched) for matched in range(len(word))]:
                         for letter in "ab!~x":
-                            expected = self.expected(pieces, grain, word, state, letter)
+                            expected = plain.circle_way(pieces, grain, word, state, letter)
                             result = circle_way(pieces, grain, word, state, letter)
                             self.same(result, expected, (pieces, grain, word, state, letter))
 

@@ -42,3 +42,16 @@ def grams_of(pieces, grain):
 def letters_after(pieces, grain, gram):
     """The text of all letters, ascending, that make a window when they are put behind the gram."""
     return "".join([window[-1] for window in windows_of(pieces, grain) if window[:-1] == gram])
+
+
+def letters_by_gram(pieces, grain):
+    """For each gram of the shards the text of all letters, ascending, that make a window behind it."""
+    following = {gram: "" for gram in grams_of(pieces, grain)}
+    for window in windows_of(pieces, grain):
+        following[window[:-1]] += window[-1]
+    return following
+
+
+def letters_of(pieces):
+    """The text of all letters of the pieces, ascending."""
+    return "".join(sorted(set("".join(pieces))))

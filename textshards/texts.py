@@ -43,3 +43,15 @@ def advance(word, matched, letter):
     while not read.endswith(word[:length]):
         length -= 1
     return length
+
+
+def advances(word, letters):
+    """For each number of matched letters, what it becomes by each of the letters."""
+    lengths = borders(word)
+    rows = []
+    for matched, letter in enumerate(word):
+        # Where the word does not go on, the longest border of what is matched may.
+        row = dict(rows[lengths[matched - 1]]) if matched > 0 else {other: 0 for other in letters}
+        row[letter] = matched + 1
+        rows.append(row)
+    return rows
