@@ -279,3 +279,32 @@ def closed_walks(graph, most):
         found += [walk for walk in walks if walk[-1][1] == walk[0][0]]
         walks = [walk + (edge,) for walk in walks for edge in graph[1] if walk[-1][1] == edge[0]]
     return found
+
+
+def holds(distances, positions_of):
+    return all(low <= positions_of[j] - positions_of[i] <= high for i, j, low, high in distances)
+
+
+def is_ring(distances, limits):
+    """Whether the limits lead round and add up to less than 0."""
+    known = {}
+    for at, (i, j, low, high) in enumerate(distances):
+        known[at, "high", high] = (i, j)
+        known[at, "low", -low] = (j, i)
+    if not limits or not all(limit in known for limit in limits):
+        return False
+    leads = all(known[limits[at]][1] == known[limits[(at + 1) % len(limits)]][0] for at in range(len(limits)))
+    return leads and sum(limit[2] for limit in limits) < 0
+
+
+def wrong_letters(placed_pieces, text):
+    return sum(text[start + at] != letter for start, piece in placed_pieces for at, letter in enumerate(piece))
+
+
+def possible_texts(size, placed_pieces, alphabet, budget):
+    return [text for text in texts_over(alphabet, size, size) if wrong_letters(placed_pieces, text) <= budget]
+
+
+def spectrum(circle, grain):
+    seen = [round_from(circle, p, grain) for p in range(len(circle))]
+    return tuple(sorted((window, seen.count(window)) for window in set(seen)))

@@ -23,6 +23,15 @@ FUNCTIONS = {
     "overlaps": ("free_pieces(pieces)", "overlap_graph(pieces, least)", "check_graph(graph)"),
     "reducing": ("reduced(graph)",),
     "tracing": ("traced(graph, circle)", "spelled(graph, walk)"),
+    "distances": ("check_distances(count, distances)", "placed(count, distances)",
+                  "check_ring(count, distances, limits)", "implied(count, distances, i, j)"),
+    "voting": ("check_placed(size, placed_pieces, alphabet)", "least_wrong(size, placed_pieces, alphabet)",
+               "possible_letters(size, placed_pieces, alphabet, budget)"),
+    "correcting": ("voted(size, placed_pieces, alphabet)", "corrected(placed_pieces, text)",
+                   "two_texts(size, placed_pieces, alphabet, budget, position)"),
+    "assembly": ("assemble(size, placed_pieces, alphabet, budget, grain, shape)",),
+    "reports": ("write_report(report)", "read_report(text)"),
+    "spectra": ("check_spectrum(spectrum)", "spectrum_of(circle, grain)", "has_circle(spectrum)"),
 }
 
 CONSTANTS = {
@@ -35,6 +44,12 @@ CONSTANTS = {
 INDEX_METHODS = ("__init__(self, text)", "count(self, word)", "locate(self, word)", "insert(self, at, word)",
                  "delete(self, at, count)", "back(self, version)", "text_at(self, version)",
                  "count_at(self, version, word)", "__len__(self)", "__contains__(self, word)")
+
+# What each class defines itself: methods and properties.
+CLASSES = {
+    "index.Index": (INDEX_METHODS, ("text", "version", "runs")),
+    "assembly.Report": (("paper(self, strand)",), ()),
+}
 
 
 class InterfaceTest(unittest.TestCase):
@@ -53,11 +68,13 @@ class InterfaceTest(unittest.TestCase):
             for constant, number in told.items():
                 self.assertEqual(getattr(module, constant), number, constant)
 
-    def test_index_defines_its_methods_and_properties_itself(self):
-        index = importlib.import_module("textshards.index").Index
-        self.assertEqual(index.__module__, "textshards.index")
-        for form in INDEX_METHODS:
-            method = vars(index)[form.split("(")[0]]
-            self.assertEqual(method.__name__ + str(inspect.signature(method)), form)
-        for name in ("text", "version", "runs"):
-            self.assertIsInstance(vars(index)[name], property, name)
+    def test_classes_define_their_methods_and_properties_themselves(self):
+        for name, (methods, properties) in CLASSES.items():
+            module, owner = name.split(".")
+            owner = getattr(importlib.import_module("textshards." + module), owner)
+            self.assertEqual(owner.__module__, "textshards." + module)
+            for form in methods:
+                method = vars(owner)[form.split("(")[0]]
+                self.assertEqual(method.__name__ + str(inspect.signature(method)), form)
+            for known in properties:
+                self.assertIsInstance(vars(owner)[known], property, known)
