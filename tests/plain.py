@@ -308,3 +308,32 @@ def possible_texts(size, placed_pieces, alphabet, budget):
 def spectrum(circle, grain):
     seen = [round_from(circle, p, grain) for p in range(len(circle))]
     return tuple(sorted((window, seen.count(window)) for window in set(seen)))
+
+
+def texts_with_spectrum(counted):
+    """All texts of the spectrum's size that have it as circles."""
+    size = sum(count for _, count in counted)
+    letters = sorted({letter for window, _ in counted for letter in window})
+    return [text for text in texts_over(letters, size, size) if spectrum(text, len(counted[0][0])) == counted]
+
+
+def ends(text, word):
+    return tuple(p + len(word) for p in range(len(text) + 1) if text[p:].startswith(word))
+
+
+def automaton(text):
+    """One state for each class of words of the text that have the same ends."""
+    classes = {}
+    for word in words_in(text):
+        classes.setdefault(ends(text, word), set()).add(word)
+    longest = sorted((max(words, key=len) for words in classes.values()), key=lambda word: (len(word), word))
+
+    def number(word):
+        return [at for at, other in enumerate(longest) if ends(text, other) == ends(text, word)][0]
+
+    states = []
+    for word in longest:
+        unlike = [word[p:] for p in range(1, len(word) + 1) if ends(text, word[p:]) != ends(text, word)]
+        ways = [(letter, number(word + letter)) for letter in sorted(set(text)) if ends(text, word + letter)]
+        states.append((word, number(unlike[0]) if unlike else -1, tuple(ways)))
+    return tuple(states), [sorted(classes[ends(text, word)], key=len) for word in longest]

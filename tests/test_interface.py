@@ -32,6 +32,11 @@ FUNCTIONS = {
     "assembly": ("assemble(size, placed_pieces, alphabet, budget, grain, shape)",),
     "reports": ("write_report(report)", "read_report(text)"),
     "spectra": ("check_spectrum(spectrum)", "spectrum_of(circle, grain)", "has_circle(spectrum)"),
+    "euler": ("one_circle(spectrum)",),
+    "counting": ("count_circles(spectrum)",),
+    "ranking": ("count_lines(pieces, grain, size)", "number_of(pieces, grain, text)",
+                "line_at(pieces, grain, size, number)", "shortest_line(pieces, grain)"),
+    "words": ("word_automaton(text)", "run_word(automaton, word)", "shortest_of(automaton, state)"),
 }
 
 CONSTANTS = {
@@ -49,6 +54,10 @@ INDEX_METHODS = ("__init__(self, text)", "count(self, word)", "locate(self, word
 CLASSES = {
     "index.Index": (INDEX_METHODS, ("text", "version", "runs")),
     "assembly.Report": (("paper(self, strand)",), ()),
+    "bits.Bits": (("__init__(self, bits)", "__len__(self)", "ones_before(self, at)", "place_of_one(self, k)",
+                   "place_of_zero(self, k)"), ()),
+    "wavelets.Wavelet": (("__init__(self, text)", "__len__(self)", "letter(self, at)", "rank(self, sign, at)",
+                          "place(self, sign, k)", "smaller(self, sign, low, high)", "kth(self, low, high, k)"), ()),
 }
 
 
