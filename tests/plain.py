@@ -337,3 +337,121 @@ def automaton(text):
         ways = [(letter, number(word + letter)) for letter in sorted(set(text)) if ends(text, word + letter)]
         states.append((word, number(unlike[0]) if unlike else -1, tuple(ways)))
     return tuple(states), [sorted(classes[ends(text, word)], key=len) for word in longest]
+
+
+def least_cost(one, other):
+    """A plain table of the least costs to turn each beginning of the one into each beginning of the other."""
+    table = {}
+    for i in range(len(one) + 1):
+        for j in range(len(other) + 1):
+            costs = [i + j] if i == 0 or j == 0 else [table[i - 1, j] + 1, table[i, j - 1] + 1]
+            if i and j and one[i - 1] == other[j - 1]:
+                costs.append(table[i - 1, j - 1])
+            table[i, j] = min(costs)
+    return table[len(one), len(other)]
+
+
+def edited(text, edits):
+    """The text that the edits make, letter by letter, and their cost; None if they do not fit."""
+    made, rest, cost = "", list(text), 0
+    for kind, worth in edits:
+        if kind == "add":
+            made += worth
+            cost += len(worth)
+            continue
+        for _ in range(worth):
+            if not rest:
+                return None
+            letter = rest.pop(0)
+            made += letter if kind == "keep" else ""
+            cost += kind == "drop"
+    return None if rest else (made, cost)
+
+
+def differing(one, other):
+    return sum(a != b for a, b in zip(one, other, strict=True))
+
+
+def keeps(text, pair):
+    one, other, low, high = pair
+    return any(low <= q - p <= high for p in positions(text, one) for q in positions(text, other))
+
+
+def shortest_with_pairs(pieces, grain, pairs, barred):
+    """Letter by letter, by all that can matter: the last letters, and what occurred so far. None if there is none."""
+    size = max([len(word) for word in pieces + barred] + [grain] + [len(one) + len(other) + high
+                                                                    for one, other, _, high in pairs])
+    letters = sorted({letter for piece in pieces for letter in piece})
+    row, seen = [("", "", frozenset())], set()
+    while row:
+        longer = []
+        for text, last, had in row:
+            for letter in letters:
+                read = last + letter
+                if len(text) + 1 >= grain and read[-grain:] not in windows(pieces, grain):
+                    continue
+                if any(word in read for word in barred):
+                    continue
+                now = had | {piece for piece in pieces if piece in read} | {pair for pair in pairs if keeps(read, pair)}
+                if len(now) == len(set(pieces)) + len(set(pairs)):
+                    return text + letter
+                if (read[-size:], now) not in seen:
+                    seen.add((read[-size:], now))
+                    longer.append((text + letter, read[-size:], now))
+        row = longer
+    return None
+
+
+def unfolded(factors):
+    """The text of the factors, letter by letter."""
+    text = ""
+    for factor in factors:
+        for _ in range(factor[2] if factor[0] == "copy" else 1):
+            text += factor[1] if factor[0] == "letter" else text[len(text) - factor[1]]
+    return text
+
+
+def copies(text, at):
+    """All copies (count, back) that repeat what the text has at the position."""
+    return [(count, back) for back in range(1, at + 1) for count in range(1, len(text) - at + 1)
+            if all(text[at + k] == text[at + k - back] for k in range(count))]
+
+
+def folded(text):
+    factors, at = [], 0
+    while at < len(text):
+        if text[at] not in text[:at]:
+            factors.append(("letter", text[at]))
+            at += 1
+        else:
+            count, back = max(copies(text, at), key=lambda pair: (pair[0], -pair[1]))
+            factors.append(("copy", back, count))
+            at += count
+    return tuple(factors)
+
+
+def fewest_factors(text):
+    """The least number of factors over all ways to put them."""
+    few = {len(text): 0}
+    for at in range(len(text) - 1, -1, -1):
+        few[at] = 1 + min(few[at + count] for count in {1} | {count for count, _ in copies(text, at)})
+    return few[0]
+
+
+def occurs_once(text, word):
+    return len([p for p in range(len(text) + 1) if text[p:].startswith(word)]) == 1
+
+
+def markers(text):
+    found = []
+    for p in range(len(text)):
+        for q in range(p + 1, len(text) + 1):
+            word = text[p:q]
+            if occurs_once(text, word) and not occurs_once(text, word[1:]) and not occurs_once(text, word[:-1]):
+                found.append((p, word))
+    return tuple(found)
+
+
+def shared_words(circles, count):
+    sets = [{round_from(circle, p, count) for p in range(len(circle))} for circle in circles]
+    return tuple(sorted(set.intersection(*sets)))

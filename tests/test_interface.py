@@ -37,6 +37,14 @@ FUNCTIONS = {
     "ranking": ("count_lines(pieces, grain, size)", "number_of(pieces, grain, text)",
                 "line_at(pieces, grain, size, number)", "shortest_line(pieces, grain)"),
     "words": ("word_automaton(text)", "run_word(automaton, word)", "shortest_of(automaton, state)"),
+    "aligning": ("apply_edits(text, edits)", "distance(one, other)", "align(one, other)"),
+    "tolerant": ("mismatches(one, other)", "near_starts(text, word, most)",
+                 "tolerant_overlaps(one, other, least, most)"),
+    "pairs": ("check_pairs(pieces, grain, pairs)", "keeps(text, pair)", "decide_with_pairs(pieces, grain, pairs, word)",
+              "shortest_with_pairs(pieces, grain, pairs)"),
+    "factors": ("fold(text)", "unfold(factors)"),
+    "markers": ("markers(text)", "marked(text, position)", "shared_words(circles, count)",
+                "longest_shared(circles, most)"),
 }
 
 CONSTANTS = {
@@ -58,6 +66,11 @@ CLASSES = {
                    "place_of_zero(self, k)"), ()),
     "wavelets.Wavelet": (("__init__(self, text)", "__len__(self)", "letter(self, at)", "rank(self, sign, at)",
                           "place(self, sign, k)", "smaller(self, sign, low, high)", "kth(self, low, high, k)"), ()),
+    "workshop.Workshop": (("__init__(self, grain, shape)", "add(self, piece)", "remove(self, number)",
+                           "ask(self, word)", "what_if(self, piece, word)"), ("held",)),
+    "ropes.Rope": (("__init__(self, text)", "__len__(self)", "insert(self, at, word)", "delete(self, at, count)",
+                    "letter(self, at)", "rank(self, sign, at)", "part(self, start, end)",
+                    "position_of(self, word, at)", "cut_off(self, at)", "put_behind(self, rope)", "whole(self)"), ()),
 }
 
 

@@ -7,19 +7,29 @@ PIECE_LIMIT = 40
 LETTER_LIMIT = 60
 
 
-def check_shards(pieces, grain):
-    """Raise an error if the pieces and the grain are no shards."""
+def check_grain(grain):
+    """Raise GrainError for a grain out of its range."""
     if not 1 <= grain <= GRAIN_LIMIT:
         raise GrainError(f"a grain is from 1 to {GRAIN_LIMIT}, not {grain}")
+
+
+def check_piece(piece, grain):
+    """Raise an error for a piece that is too short or too long."""
+    if len(piece) < grain:
+        raise GrainError(f"a piece has at least {grain} letters, not {len(piece)}")
+    if len(piece) > LETTER_LIMIT:
+        raise TooLarge(f"a piece has at most {LETTER_LIMIT} letters, not {len(piece)}")
+
+
+def check_shards(pieces, grain):
+    """Raise an error if the pieces and the grain are no shards."""
+    check_grain(grain)
     if len(pieces) == 0:
         raise GrainError("there are no pieces")
     if len(pieces) > PIECE_LIMIT:
         raise TooLarge(f"there are at most {PIECE_LIMIT} pieces, not {len(pieces)}")
     for piece in pieces:
-        if len(piece) < grain:
-            raise GrainError(f"a piece has at least {grain} letters, not {len(piece)}")
-        if len(piece) > LETTER_LIMIT:
-            raise TooLarge(f"a piece has at most {LETTER_LIMIT} letters, not {len(piece)}")
+        check_piece(piece, grain)
 
 
 def windows_in(texts, grain):

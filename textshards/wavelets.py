@@ -15,10 +15,6 @@ class Level:
         self.row = Bits(tuple([(code >> shift) & 1 for code in codes]))
         self.zeros = len(codes) - self.row.ones_before(len(codes))
 
-    def bit(self, at):
-        """The bit at the position."""
-        return self.row.ones_before(at + 1) - self.row.ones_before(at)
-
     def down(self, bit, at):
         """How the position goes on in the next level, behind all letters before it with this bit."""
         ones = self.row.ones_before(at)
@@ -47,8 +43,6 @@ class Wavelet:
 
     def letter(self, at):
         """The letter at the position."""
-        if not 0 <= at < len(self._text):
-            raise RangeError(f"no letter at {at}")
         return self.kth(at, at + 1, 0)
 
     def rank(self, sign, at):
